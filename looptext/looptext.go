@@ -4,7 +4,9 @@ package looptext
 import (
 	"looptext/api"
 	"looptext/datum"
+	"looptext/graph"
 	"looptext/token"
+	"looptext/writer"
 )
 
 // Read reads the first datum of a text (P3 to P6).
@@ -27,7 +29,23 @@ func Read(text string, depth int) ([]api.Node, int, api.Errno) {
 }
 
 // Write writes a graph (P7 to P9).
-func Write(nodes []api.Node, mode int) (string, api.Errno) { return "", api.OK }
+func Write(nodes []api.Node, mode int) (string, api.Errno) {
+	if mode != api.Simple && mode != api.Cycles && mode != api.Shared {
+		return "", api.ErrArg
+	}
+	if !graph.Right(nodes) {
+		return "", api.ErrGraph
+	}
+	walk := graph.Through(nodes)
+	if mode == api.Simple && walk.Loops() {
+		return "", api.ErrCycle
+	}
+	text, fits := writer.Write(nodes, labelled(nodes, mode, walk))
+	if !fits {
+		return "", api.ErrLong
+	}
+	return text, api.OK
+}
 
 // Reckon reckons a text (P10).
 func Reckon(text string) (string, api.Errno) { return "", api.OK }

@@ -28,3 +28,13 @@ func codeOf(name string) (int, bool) {
 	}
 	return 0, false
 }
+
+// NameOf is the name of a character that has one.
+func NameOf(code int) (string, bool) {
+	for _, c := range charNames {
+		if c.code == code {
+			return c.name, true
+		}
+	}
+	return "", false
+}

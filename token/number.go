@@ -4,6 +4,7 @@ import (
 	"strings"
 
 	"looptext/api"
+	"looptext/ratio"
 )
 
 func mustBeNumber(word string) bool {
@@ -30,11 +31,11 @@ func number(word string) (Token, bool) {
 	if fault := numberFault(n, d); fault != api.OK {
 		return Token{Kind: Number, Fault: fault}, true
 	}
-	common := divisor(n, d)
 	if negative {
 		n = -n
 	}
-	return Token{Kind: Number, N: n / common, D: d / common}, true
+	n, d = ratio.Lowest(n, d)
+	return Token{Kind: Number, N: n, D: d}, true
 }
 
 func numberFault(n, d int) api.Errno {
@@ -57,12 +58,4 @@ func amount(digits string) int {
 		n = min(n*10+int(digits[i]-'0'), api.MaxNumber+1)
 	}
 	return n
-}
-
-// divisor is the greatest common one.
-func divisor(a, b int) int {
-	for b != 0 {
-		a, b = b, a%b
-	}
-	return a
 }

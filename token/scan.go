@@ -132,7 +132,7 @@ func scanChar(text string, at int) Token {
 		}
 		return Token{Kind: Char, At: at, End: end, N: code}
 	}
-	if start == len(text) || text[start] < 33 || text[start] > 126 {
+	if start == len(text) || !isOwnChar(int(text[start])) {
 		return wrong(at)
 	}
 	return Token{Kind: Char, At: at, End: start + 1, N: int(text[start])}

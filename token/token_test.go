@@ -69,3 +69,36 @@ func TestCharNames(t *testing.T) {
 		t.Error("a name that is none has a code")
 	}
 }
+
+func TestIsSymbol(t *testing.T) {
+	for _, s := range []string{"a", "+", "-", "..", "...", ".5", "+a", "-.1", "+-1", "a1", "aZ09+-*/<>=?!._"} {
+		if !IsSymbol(s) {
+			t.Errorf("%q is a symbol", s)
+		}
+	}
+	for _, s := range []string{"", ".", "1", "+1", "-1a", "1/2", "a b", " a", "a ", "a\n", "#t", "a#", "é", "\x00", "a;"} {
+		if IsSymbol(s) {
+			t.Errorf("%q is no symbol", s)
+		}
+	}
+	// It is what is read as one: any two bytes tell.
+	for i := range 1 << 16 {
+		s := string([]byte{byte(i >> 8), byte(i)})
+		got := Gather(s)
+		if IsSymbol(s) != (got[0].Kind == Symbol && got[0].Text == s) {
+			t.Errorf("IsSymbol(%q) = %t", s, IsSymbol(s))
+		}
+	}
+}
+
+func TestIsChar(t *testing.T) {
+	for code := -300; code <= 300; code++ {
+		named := slices.Contains([]int{32, 10, 9, 0, 127, 27}, code)
+		if IsChar(code) != (named || 33 <= code && code <= 126) {
+			t.Errorf("IsChar(%d) = %t", code, IsChar(code))
+		}
+		if name, ok := NameOf(code); ok != named || ok != (name != "") {
+			t.Errorf("NameOf(%d) = %q, %t", code, name, ok)
+		}
+	}
+}
