@@ -59,17 +59,6 @@ func TestNumberFaults(t *testing.T) {
 	}
 }
 
-func TestCharNames(t *testing.T) {
-	for _, c := range charNames {
-		if code, ok := codeOf(c.name); !ok || code != c.code || c.name == "" {
-			t.Errorf("codeOf(%q) = %d, %t", c.name, code, ok)
-		}
-	}
-	if _, ok := codeOf("altmode"); ok {
-		t.Error("a name that is none has a code")
-	}
-}
-
 func TestIsSymbol(t *testing.T) {
 	for _, s := range []string{"a", "+", "-", "..", "...", ".5", "+a", "-.1", "+-1", "a1", "aZ09+-*/<>=?!._"} {
 		if !IsSymbol(s) {
