@@ -33,6 +33,17 @@ func (Truth) isDatum()   {}
 func (Char) isDatum()    {}
 func (*Label) isDatum()  {}
 
+// Meant is the datum for which a label stands, or else d itself.
+func Meant(d Datum) Datum {
+	for {
+		l, ok := d.(*Label)
+		if !ok {
+			return d
+		}
+		d = l.Of
+	}
+}
+
 // chain is the list of data that ends in rest.
 func chain(data []Datum, rest Datum) Datum {
 	for i := len(data) - 1; i >= 0; i-- {

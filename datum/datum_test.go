@@ -46,3 +46,15 @@ func TestGraphOfLoops(t *testing.T) {
 		t.Errorf("got %+v", nodes)
 	}
 }
+
+func TestMeant(t *testing.T) {
+	p := &Pair{Nil{}, Nil{}}
+	for _, want := range []Datum{p, Nil{}, Symbol{"a"}, Number{1, 2}, &Vector{}} {
+		l := &Label{want}
+		for _, d := range []Datum{want, l, &Label{l}, &Label{&Label{l}}} {
+			if Meant(d) != want {
+				t.Errorf("Meant(%#v) = %#v", d, Meant(d))
+			}
+		}
+	}
+}

@@ -21,9 +21,7 @@ func Graph(root Datum) []api.Node {
 
 // number is the number of the node for d at the place where it is met now.
 func (g *graph) number(d Datum) int {
-	switch x := d.(type) {
-	case *Label:
-		return g.number(x.Of)
+	switch x := Meant(d).(type) {
 	case *Pair:
 		return g.holder(x, api.Pair, []Datum{x.First, x.Rest})
 	case *Vector:

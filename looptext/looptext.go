@@ -5,6 +5,7 @@ import (
 	"looptext/api"
 	"looptext/datum"
 	"looptext/graph"
+	"looptext/reckon"
 	"looptext/token"
 	"looptext/writer"
 )
@@ -14,18 +15,11 @@ func Read(text string, depth int) ([]api.Node, int, api.Errno) {
 	if depth < 0 || depth > api.MaxDepth {
 		return nil, 0, api.ErrArg
 	}
-	if len(text) > api.MaxText {
-		return nil, 0, api.ErrLong
-	}
-	root, end, fault := datum.Read(token.Gather(text), depth)
+	found, fault := read(text, depth)
 	if fault != nil {
 		return nil, fault.At, fault.Errno
 	}
-	nodes := datum.Graph(root)
-	if len(nodes) > api.MaxNodes {
-		return nil, 0, api.ErrLong
-	}
-	return nodes, end, api.OK
+	return found.nodes, found.end, api.OK
 }
 
 // Write writes a graph (P7 to P9).
@@ -48,4 +42,20 @@ func Write(nodes []api.Node, mode int) (string, api.Errno) {
 }
 
 // Reckon reckons a text (P10).
-func Reckon(text string) (string, api.Errno) { return "", api.OK }
+func Reckon(text string) (string, api.Errno) {
+	found, fault := read(text, api.MaxDepth)
+	if fault != nil {
+		return "", fault.Errno
+	}
+	if !token.NothingFrom(text, found.end) {
+		return "", api.ErrText
+	}
+	if graph.Through(found.nodes).Loops() {
+		return "", api.ErrCycle
+	}
+	result, errno := reckon.Reckon(found.root)
+	if errno != api.OK {
+		return "", errno
+	}
+	return Write(datum.Graph(result), api.Simple)
+}

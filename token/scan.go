@@ -4,7 +4,7 @@ import "strings"
 
 // next is the first token from the byte at on.
 func next(text string, at int) Token {
-	at = skip(text, at)
+	at, _ = skip(text, at)
 	if at == len(text) {
 		return endOf(text)
 	}
@@ -25,8 +25,18 @@ func next(text string, at int) Token {
 	return wrong(at)
 }
 
-// skip is the place behind all blanks and comments.
-func skip(text string, at int) int {
+// NothingFrom holds if from the byte at on there are only blanks and comments,
+// none of which is cut off.
+func NothingFrom(text string, at int) bool {
+	at, whole := skip(text, at)
+	return whole && at == len(text)
+}
+
+// skip is the place behind all blanks and comments; false if the last comment
+// is cut off. The place is the text's end then, which is just where ErrEnd is
+// told.
+func skip(text string, at int) (int, bool) {
+	whole := true
 	for at < len(text) {
 		switch {
 		case isBlank(text[at]):
@@ -34,12 +44,12 @@ func skip(text string, at int) int {
 		case text[at] == ';':
 			at = lineEnd(text, at)
 		case strings.HasPrefix(text[at:], "#|"):
-			at = commentEnd(text, at)
+			at, whole = commentEnd(text, at)
 		default:
-			return at
+			return at, whole
 		}
 	}
-	return at
+	return at, whole
 }
 
 func lineEnd(text string, at int) int {
@@ -49,9 +59,9 @@ func lineEnd(text string, at int) int {
 	return len(text)
 }
 
-// commentEnd is the place behind the |# that belongs to the #| at the byte at.
-// Without one it is the text's end, which is just where ErrEnd is told.
-func commentEnd(text string, at int) int {
+// commentEnd is the place behind the |# that belongs to the #| at the byte at;
+// without one it is the text's end, and false.
+func commentEnd(text string, at int) (int, bool) {
 	open := 0
 	for at < len(text) {
 		switch {
@@ -62,13 +72,13 @@ func commentEnd(text string, at int) int {
 			open--
 			at += 2
 			if open == 0 {
-				return at
+				return at, true
 			}
 		default:
 			at++
 		}
 	}
-	return at
+	return at, false
 }
 
 func scanText(text string, at int) Token {

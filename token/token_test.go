@@ -91,3 +91,17 @@ func TestIsChar(t *testing.T) {
 		}
 	}
 }
+
+func TestNothingFrom(t *testing.T) {
+	for text, want := range map[string]bool{
+		"": true, " \t\n": true, ";": true, "; a": true, ";\n;": true, "#||#": true, "#| #| |# |#": true, " #| a |# ; b": true, "#||##||#": true,
+		"a": false, " )": false, "; a\nb": false, "#|": false, "#| |": false, "#| #| |#": false, "#||# #|": false, "#||#a": false, "#;": false, "|#": false, "\r": false, "#": false,
+	} {
+		if NothingFrom(text, 0) != want || !NothingFrom(text, len(text)) {
+			t.Errorf("NothingFrom(%q) = %t", text, !want)
+		}
+		if NothingFrom("(a"+text, 2) != want {
+			t.Errorf("NothingFrom(%q, 2) = %t", "(a"+text, !want)
+		}
+	}
+}
